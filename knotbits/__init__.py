@@ -1,0 +1,1 @@
+"""Knotbits: trees pressed into two bits a knot."""
