@@ -22,6 +22,34 @@ def comb(knots):
     return parents
 
 
+def broad(knots, many=4):
+    """A tree in which each knot gets so many children, level by level, while knots are left."""
+    inner = [[] for _ in range(knots)]
+    for knot in range(1, knots):
+        inner[(knot - 1) // many].append(knot)
+    parents = []
+
+    def go_down(knot, parent):
+        number = len(parents)
+        parents.append(parent)
+        for child in inner[knot]:
+            go_down(child, number)
+
+    go_down(0, None)
+    return parents
+
+
+def broom(knots):
+    """A path, and as many leaves again at its foot."""
+    handle = max(knots // 2, 1)
+    return path(handle) + [handle - 1] * (knots - handle)
+
+
+def hand(knots, finger=5):
+    """Paths of a few knots each, all beneath the knot nought."""
+    return [None] + [0 if knot % finger == 1 else knot - 1 for knot in range(1, knots)]
+
+
 def elders_and_self(parents, knot):
     """The knot, its parent, that one's parent, and so on."""
     line = []
@@ -53,6 +81,16 @@ def every_tree(knots):
             tree + [parent] for tree in trees for parent in elders_and_self(tree, knot - 1)
         ]
     return trees
+
+
+def asked_trees(knots):
+    """Trees of so many knots of each shape, with names."""
+    return [
+        ("path", path(knots)), ("star", star(knots)), ("comb", comb(knots)),
+        ("broom", broom(knots)), ("hand", hand(knots)), ("two each", broad(knots, 2)),
+        ("broad", broad(knots, 6)), ("deep by chance", random_tree(knots, 11, 85)),
+        ("by chance", random_tree(knots, 12, 50)), ("broad by chance", random_tree(knots, 13, 15)),
+    ]
 
 
 def some_trees():
